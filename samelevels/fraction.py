@@ -34,3 +34,10 @@ def times(p, q):
 
 def over(p, q):
     return lowest(p[0] * q[1], p[1] * q[0])
+
+
+def power(p, e):
+    result = ONE
+    for k in range(e):
+        result = times(result, p)
+    return result

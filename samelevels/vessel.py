@@ -1,7 +1,9 @@
 """The object that the calls go to: its substances and its rules, and what it answers."""
 
 from samelevels.fraction import ONE, lowest
-from samelevels.taken import level_of, numbers_taken, ratio_of, relations_of
+from samelevels.knot import how_many_hidden, numbers_staying, pairs_of, substances_paired
+from samelevels.point import amounts_at, is_met, is_steady, makes_point, weight_of
+from samelevels.taken import level_of, mixtures_of, numbers_taken, ratio_of, relations_of
 
 NO_SUCH = -2
 NOT_BEGUN = -11
@@ -27,6 +29,20 @@ def makes_rule(row, substances):
 
 def makes_speed(a, b):
     return a >= 1 and a <= MOST_IN_SPEED and b >= 1 and b <= MOST_IN_SPEED
+
+
+def rules_at(rules, j, speed):
+    # Another list, as a speed that's only asked for isn't the rule's.
+    changed = list(rules)
+    changed[j] = (rules[j][0], rules[j][1], speed)
+    return changed
+
+
+def level_told(rules, substances, s):
+    found = level_of(rules, substances, s)
+    if found is None:
+        return [NOT_TOLD]
+    return [found[0]] + list(found[1])
 
 
 class Vessel:
@@ -82,8 +98,7 @@ class Vessel:
             return [NO_SUCH]
         if not makes_speed(a, b):
             return [WRONG]
-        rule = self.rules[j]
-        self.rules[j] = (rule[0], rule[1], lowest(a, b))
+        self.rules = rules_at(self.rules, j, lowest(a, b))
         return [0]
 
     def lefts(self):
@@ -110,7 +125,47 @@ class Vessel:
     def level(self, s):
         if s >= self.substances:
             return [NO_SUCH]
-        found = level_of(self.rules, self.substances, s)
-        if found is None:
-            return [NOT_TOLD]
-        return [found[0]] + list(found[1])
+        return level_told(self.rules, self.substances, s)
+
+    def ifspeed(self, j, a, b, s):
+        if j >= len(self.rules) or s >= self.substances:
+            return [NO_SUCH]
+        if not makes_speed(a, b):
+            return [WRONG]
+        return level_told(rules_at(self.rules, j, lowest(a, b)), self.substances, s)
+
+    def pairs(self):
+        found = pairs_of(self.rules, self.substances)
+        told = [len(found)]
+        for pair in found:
+            told.extend(pair)
+        return told
+
+    def same(self):
+        found = substances_paired(self.rules, self.substances)
+        return [len(found)] + found
+
+    def ends(self):
+        numbers = numbers_staying(self.rules)
+        return [len(numbers)] + numbers
+
+    def hides(self):
+        return [how_many_hidden(self.rules, self.substances)]
+
+    def weight(self, i, row):
+        mixtures = mixtures_of(self.rules)
+        if i >= len(mixtures):
+            return [NO_SUCH]
+        if not makes_point(row, self.substances):
+            return [WRONG]
+        return [0] + list(weight_of(mixtures[i], amounts_at(row)))
+
+    def steady(self, row):
+        if not makes_point(row, self.substances):
+            return [WRONG]
+        return [1 if is_steady(self.rules, amounts_at(row)) else 0]
+
+    def met(self, row):
+        if not makes_point(row, self.substances):
+            return [WRONG]
+        return [1 if is_met(self.rules, amounts_at(row)) else 0]

@@ -4,43 +4,9 @@ import random
 import unittest
 from fractions import Fraction
 
-from calling import LEFTS, RELATIONS, ask, begin, level, ratio, rule, ruleis, speed
-
-
-def rank(rows):
-    rows = [list(row) for row in rows]
-    found = 0
-    for column in reversed(range(len(rows[0]) if rows else 0)):
-        for k in range(found, len(rows)):
-            if rows[k][column]:
-                rows[found], rows[k] = rows[k], rows[found]
-                for m in range(found + 1, len(rows)):
-                    factor = rows[m][column] / rows[found][column]
-                    rows[m] = [x - factor * y for x, y in zip(rows[m], rows[found])]
-                found += 1
-                break
-    return found
-
-
-def made_of(rows, row):
-    return rank(rows + [row]) == rank(rows)
-
-
-def drawn(source):
-    n = source.randint(1, 4)
-    most = source.choice((1, 1, 2, 3))
-    rules = {}
-    for _ in range(source.randint(0, 8)):
-        left = tuple(source.randint(0, most) for _ in range(n))
-        right = list(left)
-        for _ in range(source.randint(1, 3)):
-            right[source.randrange(n)] = source.randint(0, most)
-        if left != tuple(right):
-            speed_drawn = (source.choice((1, 2, 3, 1000)), source.choice((1, 2, 7, 999)))
-            rules[left, tuple(right)] = speed_drawn
-            if source.random() < 0.4 and len(rules) < 8:
-                rules[tuple(right), left] = (1, 1)
-    return n, list(rules.items())[:8]
+from calling import (
+    ENDS, HIDES, LEFTS, PAIRS, RELATIONS, SAME, ifspeed, level, met, ratio, ruleis, steady, weight)
+from sums import asked, drawn, fractions_told, made_of, met_at, rank, steady_at, weight_at
 
 
 class Expected:
@@ -54,6 +20,42 @@ class Expected:
             [sum((Fraction(*told) * (both[1][s] - both[0][s])
                   for both, told in rules if both[0] == self.mixtures[i]), Fraction(0)) for i in self.taken]
             for s in range(n)]
+
+    def reach(self, both_ways):
+        # Which mixtures come to which, by ever longer ways.
+        size = len(self.mixtures)
+        reach = [[i == j for j in range(size)] for i in range(size)]
+        for (left, right), _ in self.rules:
+            i, j = self.mixtures.index(left), self.mixtures.index(right)
+            reach[i][j] = True
+            reach[j][i] = reach[j][i] or both_ways
+        for k in range(size):
+            for i in range(size):
+                for j in range(size):
+                    reach[i][j] = reach[i][j] or reach[i][k] and reach[k][j]
+        return reach
+
+    def ends(self):
+        reach = self.reach(False)
+        every = range(len(self.mixtures))
+        return [i for i in every if all(reach[j][i] for j in every if reach[i][j])]
+
+    def hides(self):
+        # As many as there are mixtures, less the classes, less the changes by rules that aren't made of others.
+        classes = {tuple(row) for row in self.reach(True)}
+        changes = [[Fraction(x - y) for x, y in zip(right, left)] for (left, right), _ in self.rules]
+        return len(self.mixtures) - len(classes) - rank(changes)
+
+    def pairs(self):
+        ends = self.ends()
+        leaving = [i for i in range(len(self.mixtures)) if i not in ends]
+        found = []
+        for i in leaving:
+            for j in leaving:
+                more = [x - y for x, y in zip(self.mixtures[i], self.mixtures[j])]
+                if max(more) > 0 and more.count(0) == self.n - 1:
+                    found.append((more.index(max(more)), i, j))
+        return found if self.hides() == 1 else []
 
     def unit(self, i):
         return [Fraction(int(k == i)) for k in self.taken]
@@ -94,28 +96,10 @@ def ways_to_nothing(rows):
     return [row[width:] for row in kept]
 
 
-def fractions_told(numbers):
-    return [Fraction(numbers[k], numbers[k + 1]) for k in range(0, len(numbers), 2)]
-
-
-def setting(n, rules):
-    calls = [begin(n)]
-    for both, _ in rules:
-        calls.append(rule(*both[0], *both[1]))
-    for j, (_, told) in enumerate(rules):
-        calls.append(speed(j, *told))
-    return calls
-
-
 class BySums(unittest.TestCase):
     def setUp(self):
         source = random.Random(20261118)
         self.cases = [drawn(source) for _ in range(250)]
-
-    def asked(self, n, rules, calls):
-        told = ask(*setting(n, rules), *calls)
-        self.assertEqual(told[:1 + len(rules)], [[0]] + [[j] for j in range(len(rules))])
-        return told[1 + 2 * len(rules):]
 
     def assert_lowest(self, numbers):
         for k in range(0, len(numbers), 2):
@@ -125,7 +109,7 @@ class BySums(unittest.TestCase):
     def test_lefts_and_ruleis(self):
         for n, rules in self.cases:
             expected = Expected(n, rules)
-            told = self.asked(n, rules, [LEFTS] + [ruleis(j) for j in range(len(rules))])
+            told = asked(n, rules, [LEFTS] + [ruleis(j) for j in range(len(rules))])
             self.assertEqual(told[0], [len(expected.taken), *expected.taken])
             for (both, given), answer in zip(rules, told[1:]):
                 lowest = Fraction(*given)
@@ -134,7 +118,7 @@ class BySums(unittest.TestCase):
     def test_relations(self):
         for n, rules in self.cases:
             expected = Expected(n, rules)
-            told = self.asked(n, rules, [RELATIONS])[0]
+            told = asked(n, rules, [RELATIONS])[0]
             width = len(expected.taken)
             self.assertEqual(len(told), 1 + told[0] * width * 2)
             self.assert_lowest(told[1:])
@@ -167,8 +151,7 @@ class BySums(unittest.TestCase):
             expected = Expected(n, rules)
             every = [(i, j) for i in range(len(expected.mixtures) + 1) for j in range(len(expected.mixtures) + 1)]
             ratios = {}
-            for i, j in every:
-                told = self.asked(n, rules, [ratio(i, j)])[0]
+            for (i, j), told in zip(every, asked(n, rules, [ratio(i, j) for i, j in every])):
                 if i not in expected.taken or j not in expected.taken:
                     self.assertEqual(told, [-2])
                 elif i == j:
@@ -176,7 +159,7 @@ class BySums(unittest.TestCase):
                 else:
                     ratios[i, j] = self.ratio_found(expected, i, j, told)
             for s in range(n):
-                told = self.asked(n, rules, [level(s)])[0]
+                told = asked(n, rules, [level(s)])[0]
                 self.assertEqual(told, self.level_expected(expected, ratios, s))
                 seen[told[0]] = seen.get(told[0], 0) + 1
         # The draw reaches each kind of answer, or these tests would say little.
@@ -190,6 +173,54 @@ class BySums(unittest.TestCase):
             if alike and first[s] > other[s] and ratios[i, j] is not None:
                 return [first[s] - other[s], ratios[i, j].numerator, ratios[i, j].denominator]
         return [-33]
+
+    def test_knots(self):
+        # More of them than elsewhere, as pairs are rare.
+        source = random.Random(5)
+        hidden = {}
+        paired = 0
+        for n, rules in self.cases + [drawn(source) for _ in range(750)]:
+            expected = Expected(n, rules)
+            pairs, same, ends, hides = asked(n, rules, [PAIRS, SAME, ENDS, HIDES])
+            self.assertEqual(hides, [expected.hides()])
+            self.assertEqual(ends, [len(expected.ends()), *expected.ends()])
+            found = expected.pairs()
+            self.assertEqual(pairs, [len(found)] + [number for pair in found for number in pair])
+            substances = sorted({pair[0] for pair in found})
+            self.assertEqual(same, [len(substances), *substances])
+            hidden[hides[0]] = hidden.get(hides[0], 0) + 1
+            paired += pairs[0] > 1
+        self.assertLessEqual({0, 1, 2, 3}, set(hidden))
+        self.assertGreater(paired, 5)
+
+    def test_ifspeed_is_level_at_that_speed(self):
+        told_otherwise = 0
+        for n, rules in self.cases:
+            for j, (both, _) in enumerate(rules):
+                other = rules[:j] + [(both, (7, 3))] + rules[j + 1:]
+                levels = [level(s) for s in range(n)]
+                now = asked(n, rules, [ifspeed(j, 7, 3, s) for s in range(n)] + levels)
+                self.assertEqual(now[:n], asked(n, other, levels))
+                self.assertEqual(now[n:], asked(n, rules, levels))
+                told_otherwise += now[:n] != now[n:]
+        self.assertGreater(told_otherwise, 50)
+
+    def test_points(self):
+        source = random.Random(4)
+        for n, rules in self.cases:
+            divisor = source.choice((1, 2, 60))
+            numbers = [source.choice((1, 2, 3, 60, 1000)) for _ in range(n)]
+            amounts = [Fraction(number, divisor) for number in numbers]
+            row = [divisor, *numbers]
+            mixtures = Expected(n, rules).mixtures
+            calls = [steady(*row), met(*row)] + [level(s) for s in range(n)]
+            told = asked(n, rules, calls + [weight(i, *row) for i in range(len(mixtures) + 1)])
+            self.assertEqual(told[0], [int(steady_at(rules, amounts))])
+            self.assertEqual(told[1], [int(met_at(told[2:2 + n], amounts))])
+            for mixture, answer in zip(mixtures, told[2 + n:]):
+                expected = weight_at(mixture, amounts)
+                self.assertEqual(answer, [0, expected.numerator, expected.denominator])
+            self.assertEqual(told[-1], [-2])
 
 
 if __name__ == "__main__":

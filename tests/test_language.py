@@ -149,6 +149,25 @@ class Names(unittest.TestCase):
                     for alias in node.names:
                         self.assertIn(alias.name, self.defined_in(source), (name, alias.name))
 
+    def test_locals_are_not_called_like_an_import_or_a_class(self):
+        for name, tree in trees():
+            taken = {alias.name for node in ast.walk(tree) if isinstance(node, ast.ImportFrom) for alias in node.names}
+            taken |= {node.name for node in tree.body if isinstance(node, ast.ClassDef)}
+            for node in ast.walk(tree):
+                if isinstance(node, ast.FunctionDef):
+                    self.assertEqual(names_bound(node) & taken, set(), (name, node.name))
+
+    def test_no_two_files_draw_from_one_another(self):
+        draws = {}
+        for name, tree in trees():
+            sources = [node.module for node in ast.walk(tree) if isinstance(node, ast.ImportFrom)]
+            draws[name] = {source.partition(".")[2] + ".py" for source in sources}
+        while draws:
+            ready = [name for name in draws if not draws[name] & set(draws)]
+            self.assertNotEqual(ready, [], draws)
+            for name in ready:
+                del draws[name]
+
     def defined_in(self, tree):
         found = set()
         for node in tree.body:
